@@ -1,0 +1,1 @@
+"""Factor models of a recommender system, trained in exact whole numbers."""
