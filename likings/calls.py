@@ -1,7 +1,9 @@
 """The calls: each takes its whole numbers and answers a list of whole numbers."""
 
-from likings.objective import error_part, penalty_part, quadratic_of, whole_objective
-from likings.settings import USER, Settings, are_settings
+from likings.advice import recommended, similar_rows
+from likings.newcomer import NEWCOMER, are_new_ratings, make_rounds, with_newcomer
+from likings.objective import error_part, mean_error, penalty_part, quadratic_of, whole_objective
+from likings.settings import ITEM, USER, Settings, are_settings, is_rating
 from likings.state import NO_RATING, Model
 from likings.training import coming_objectives, first_improvable, step, sweep, train
 
@@ -10,8 +12,6 @@ NOT_THERE = -2
 OUTSIDE_LIMITS = -22
 NO_SUCH_RATING = -33
 
-LOWEST_RATING = 1
-HIGHEST_RATING = 10
 MOST_SWEEPS = 100
 LONGEST_CURVE = 20
 
@@ -39,7 +39,7 @@ def answer_set_rating(model, numbers):
     value = numbers[2]
     if not model.settings.has_pair(user, item):
         return [NOT_THERE]
-    if value < LOWEST_RATING or value > HIGHEST_RATING:
+    if not is_rating(value):
         return [OUTSIDE_LIMITS]
     old_value = model.ratings[user][item]
     model.ratings[user][item] = value
@@ -62,9 +62,7 @@ def answer_delete_user(model, numbers):
     user = numbers[0]
     if not model.settings.has_user(user):
         return [NOT_THERE]
-    removed_count = len(model.ratings_of(USER, user))
-    model.ratings[user] = [NO_RATING] * len(model.ratings[user])
-    return [removed_count]
+    return [model.drop_ratings(user)]
 
 
 def answer_reset(model, numbers):
@@ -125,6 +123,127 @@ def answer_quadratic(model, numbers):
     return [0, form.curvature, form.slope]
 
 
+def answer_parameter(model, numbers):
+    kind = numbers[0]
+    number = numbers[1]
+    place = numbers[2]
+    if not model.settings.has_parameter(kind, number, place):
+        return [NOT_THERE]
+    return [0, model.rows[kind][number][place]]
+
+
+def answer_set_parameter(model, numbers):
+    kind = numbers[0]
+    number = numbers[1]
+    place = numbers[2]
+    negative = numbers[3]
+    size = numbers[4]
+    if not model.settings.has_parameter(kind, number, place):
+        return [NOT_THERE]
+    value = -size if negative == 1 else size
+    if negative > 1 or not model.settings.is_in_range(place, value):
+        return [OUTSIDE_LIMITS]
+    row = model.rows[kind][number]
+    old_value = row[place]
+    row[place] = value
+    return [0, old_value]
+
+
+def answer_predict(model, numbers):
+    user = numbers[0]
+    item = numbers[1]
+    if not model.settings.has_pair(user, item):
+        return [NOT_THERE]
+    return [0, model.prediction(user, item)]
+
+
+def answer_explain(model, numbers):
+    user = numbers[0]
+    item = numbers[1]
+    if not model.settings.has_pair(user, item):
+        return [NOT_THERE]
+    parts = model.prediction_parts(user, item)
+    return [len(parts)] + parts
+
+
+def listed(pairs):
+    """How many pairs there are, and then the numbers of each."""
+    found = [len(pairs)]
+    for pair in pairs:
+        found.extend(pair)
+    return found
+
+
+def answer_residuals(model, numbers):
+    user = numbers[0]
+    if not model.settings.has_user(user):
+        return [NOT_THERE]
+    return listed(model.residuals_of(USER, user))
+
+
+def answer_mean_error(model, numbers):
+    if len(model.all_ratings()) == 0:
+        return [NO_SUCH_RATING]
+    return [0] + mean_error(model)
+
+
+def answer_recommend(model, numbers):
+    user = numbers[0]
+    count = numbers[1]
+    if not model.settings.has_user(user):
+        return [NOT_THERE]
+    return listed(recommended(model, user, count))
+
+
+def answer_similar(model, numbers):
+    kind = numbers[0]
+    number = numbers[1]
+    count = numbers[2]
+    if kind > ITEM:
+        return [OUTSIDE_LIMITS]
+    if not model.settings.has_row(kind, number):
+        return [NOT_THERE]
+    found = similar_rows(model, kind, number, count)
+    return [len(found)] + found
+
+
+def answer_fold_in(model, numbers):
+    if not are_new_ratings(model.settings, numbers):
+        return [OUTSIDE_LIMITS]
+    guest = with_newcomer(model, numbers)
+    round_count = make_rounds(guest)
+    return [round_count] + guest.rows[USER][NEWCOMER]
+
+
+def answer_recommend_new(model, numbers):
+    count = numbers[0]
+    ratings = numbers[1:]
+    if not are_new_ratings(model.settings, ratings):
+        return [OUTSIDE_LIMITS]
+    guest = with_newcomer(model, ratings)
+    make_rounds(guest)
+    return listed(recommended(guest, NEWCOMER, count))
+
+
+def answer_without(model, numbers):
+    user = numbers[0]
+    most = numbers[1]
+    if not model.settings.has_user(user):
+        return [NOT_THERE]
+    if most > MOST_SWEEPS:
+        return [OUTSIDE_LIMITS]
+    model.drop_ratings(user)
+    model.begin_again()
+    return train(model, most) + [whole_objective(model)]
+
+
+def answer_status(model, numbers):
+    settings = model.settings
+    row_counts = settings.row_counts
+    rating_count = len(model.all_ratings())
+    return [row_counts[USER], row_counts[ITEM], settings.factor_count, rating_count, len(settings.parameters)]
+
+
 # By the number of the call; create stands apart because it alone needs no model.
 MODEL_CALLS = {
     1: answer_set_rating,
@@ -138,6 +257,18 @@ MODEL_CALLS = {
     9: answer_curve,
     10: answer_certificate,
     11: answer_quadratic,
+    12: answer_parameter,
+    13: answer_set_parameter,
+    14: answer_predict,
+    15: answer_explain,
+    16: answer_residuals,
+    17: answer_mean_error,
+    18: answer_recommend,
+    19: answer_similar,
+    20: answer_fold_in,
+    21: answer_recommend_new,
+    22: answer_without,
+    23: answer_status,
 }
 
 

@@ -1,6 +1,6 @@
-"""The objective, as a whole and as a function of one parameter."""
+"""The objective, as a whole and as a function of one parameter, and the mean error."""
 
-from likings.settings import BIAS_PLACE, USER
+from likings.settings import BIAS_PLACE, UNIT, USER
 
 
 def error_part(model):
@@ -23,6 +23,22 @@ def penalty_part(model):
 
 def whole_objective(model):
     return error_part(model) + penalty_part(model)
+
+
+def lowest_terms(numerator, denominator):
+    """The fraction of two numbers in lowest terms; the first is not below 0, the second above it."""
+    divisor = numerator
+    rest = denominator
+    while rest != 0:
+        remainder = divisor % rest
+        divisor = rest
+        rest = remainder
+    return [numerator // divisor, denominator // divisor]
+
+
+def mean_error(model):
+    """Numerator and denominator of the mean square of the residuals in units of a rating; there is a rating."""
+    return lowest_terms(error_part(model), len(model.all_ratings()) * UNIT * UNIT)
 
 
 class Quadratic:

@@ -9,6 +9,9 @@ BIAS_LIMIT = 655360
 # A rating of 1 in the unit of predictions.
 UNIT = 65536
 
+LOWEST_RATING = 1
+HIGHEST_RATING = 10
+
 # Lowest and highest value of each argument of create, in their order. The seed, the last one, may be any number.
 CREATE_RANGES = ((1, 8), (1, 8), (0, 3), (1, 4096), (0, 1), (0, 100000000), (0, 1000))
 
@@ -20,6 +23,11 @@ def are_settings(numbers):
         if numbers[position] < bounds[0] or numbers[position] > bounds[1]:
             return False
     return True
+
+
+def is_rating(value):
+    """Tell whether a user may give this rating."""
+    return LOWEST_RATING <= value <= HIGHEST_RATING
 
 
 class Settings:
@@ -47,11 +55,17 @@ class Settings:
     def has_user(self, user):
         return user < self.row_counts[USER]
 
+    def has_item(self, item):
+        return item < self.row_counts[ITEM]
+
     def has_pair(self, user, item):
-        return self.has_user(user) and item < self.row_counts[ITEM]
+        return self.has_user(user) and self.has_item(item)
+
+    def has_row(self, kind, number):
+        return kind <= ITEM and number < self.row_counts[kind]
 
     def has_parameter(self, kind, number, place):
-        return kind <= ITEM and number < self.row_counts[kind] and place <= self.factor_count
+        return self.has_row(kind, number) and place <= self.factor_count
 
     def lowest(self, place):
         """The lower end of the range of a parameter at this place."""
@@ -66,6 +80,9 @@ class Settings:
         if place == BIAS_PLACE:
             return BIAS_LIMIT
         return self.limit
+
+    def is_in_range(self, place, value):
+        return self.lowest(place) <= value <= self.highest(place)
 
     def penalty(self, place):
         """What the square of a parameter at this place counts in the objective."""

@@ -8,15 +8,39 @@ from likings.models import answers
 NUMBERS = {
     "create": 0, "set_rating": 1, "clear_rating": 2, "delete_user": 3, "reset": 4, "step": 5,
     "sweep": 6, "train": 7, "objective": 8, "curve": 9, "certificate": 10, "quadratic": 11,
+    "parameter": 12, "set_parameter": 13, "predict": 14, "explain": 15, "residuals": 16, "mean_error": 17,
+    "recommend": 18, "similar": 19, "fold_in": 20, "recommend_new": 21, "without": 22, "status": 23,
 }
 
 # Every call but create: first with arguments that are in order on any model, then with arguments that never are.
 OTHER_CALLS = [
     ("set_rating", 0, 0, 1), ("clear_rating", 0, 0), ("delete_user", 0), ("reset",), ("step", 0, 0, 0),
     ("sweep",), ("train", 1), ("objective",), ("curve", 1), ("certificate",), ("quadratic", 0, 0, 0),
+    ("parameter", 0, 0, 0), ("set_parameter", 0, 0, 0, 1, 5), ("predict", 0, 0), ("explain", 0, 0), ("residuals", 0),
+    ("mean_error",), ("recommend", 0, 1), ("similar", 0, 0, 1), ("fold_in",), ("fold_in", 0, 1), ("recommend_new", 1),
+    ("recommend_new", 1, 0, 1), ("without", 0, 1), ("status",),
     ("set_rating", 8, 8, 11), ("clear_rating", 8, 8), ("delete_user", 8), ("step", 2, 8, 4),
     ("train", 101), ("curve", 21), ("quadratic", 2, 8, 4),
+    ("parameter", 2, 8, 4), ("set_parameter", 2, 8, 4, 2, 655361), ("predict", 8, 8), ("explain", 8, 8),
+    ("residuals", 8), ("recommend", 8, 1), ("similar", 2, 8, 1), ("fold_in", 8), ("fold_in", 8, 11),
+    ("recommend_new", 1, 8), ("recommend_new", 1, 8, 11), ("without", 8, 101),
 ]
+
+
+# The largest number that is handed in.
+LARGEST = 4294967295
+
+
+def order_of(users, items, factors):
+    """Kind, number and place of each parameter but the base, in their order."""
+    return [(kind, number, place) for kind in (0, 1) for number in range((users, items)[kind])
+            for place in range(factors + 1)]
+
+
+def look_at(users, items, factors):
+    """Calls that tell all that a model with these sizes holds but its settings; they don't change it."""
+    parameters = [("parameter", *parameter) for parameter in order_of(users, items, factors)]
+    return [("status",), ("explain", 0, 0), *parameters, *[("residuals", user) for user in range(users)]]
 
 
 def written(calls):
@@ -66,8 +90,7 @@ class SlowModel:
         self.reset()
 
     def order(self):
-        return [(kind, number, place) for kind in (0, 1) for number in range(self.counts[kind])
-                for place in range(self.factors + 1)]
+        return order_of(*self.counts, self.factors)
 
     def first(self, kind, number, place):
         if place == 0:
@@ -82,14 +105,12 @@ class SlowModel:
             return -655360, 655360
         return (0 if self.nonnegative else -self.limit), self.limit
 
+    def prediction(self, user, item):
+        products = [self.values[0, user, place] * self.values[1, item, place] for place in range(1, self.factors + 1)]
+        return self.base + self.values[0, user, 0] + self.values[1, item, 0] + sum(products)
+
     def error(self):
-        total = 0
-        for (user, item), rating in self.ratings.items():
-            prediction = self.base + self.values[0, user, 0] + self.values[1, item, 0]
-            for place in range(1, self.factors + 1):
-                prediction += self.values[0, user, place] * self.values[1, item, place]
-            total += (65536 * rating - prediction) ** 2
-        return total
+        return sum((65536 * rating - self.prediction(*pair)) ** 2 for pair, rating in self.ratings.items())
 
     def penalty(self):
         return sum(self.penalties[min(place, 1)] * value ** 2 for (_, _, place), value in self.values.items())
@@ -167,6 +188,89 @@ class SlowModel:
             if is_changed:
                 return [0, *parameter]
         return [1]
+
+    def parameter(self, *parameter):
+        return [0, self.values[parameter]]
+
+    def set_parameter(self, kind, number, place, negative, size):
+        lowest, highest = self.ends(place)
+        value = -size if negative else size
+        if not lowest <= value <= highest:
+            return [-22]
+        old = self.values[kind, number, place]
+        self.values[kind, number, place] = value
+        return [0, old]
+
+    def predict(self, user, item):
+        return [0, self.prediction(user, item)]
+
+    def explain(self, user, item):
+        products = [self.values[0, user, place] * self.values[1, item, place] for place in range(1, self.factors + 1)]
+        return [3 + self.factors, self.base, self.values[0, user, 0], self.values[1, item, 0], *products]
+
+    def residuals(self, user):
+        mine = [item for item in range(self.counts[1]) if (user, item) in self.ratings]
+        found = [len(mine)]
+        for item in mine:
+            found += [item, 65536 * self.ratings[user, item] - self.prediction(user, item)]
+        return found
+
+    def mean_error(self):
+        if not self.ratings:
+            return [-33]
+        mean = Fraction(self.error(), len(self.ratings)) / 65536 ** 2
+        return [0, mean.numerator, mean.denominator]
+
+    def recommend(self, user, count):
+        left = [item for item in range(self.counts[1]) if (user, item) not in self.ratings]
+        found = []
+        while left and len(found) < count:
+            best = max(self.prediction(user, item) for item in left)
+            item = next(item for item in left if self.prediction(user, item) == best)
+            left.remove(item)
+            found.append((item, best))
+        return [len(found), *[number for pair in found for number in pair]]
+
+    def similar(self, kind, number, count):
+        def product(one, two):
+            return sum(self.values[kind, one, place] * self.values[kind, two, place]
+                       for place in range(1, self.factors + 1))
+
+        def squared_cosine(other):
+            return Fraction(product(number, other) ** 2, product(number, number) * product(other, other))
+
+        near = [other for other in range(self.counts[kind]) if other != number and product(number, other) > 0]
+        near.sort(key=squared_cosine, reverse=True)
+        return [len(near[:count]), *near[:count]]
+
+    def newcomer(self, ratings):
+        """How many rounds there are, and a model in which the new user is the only one."""
+        other = SlowModel(1, self.counts[1], self.factors, self.limit, self.nonnegative, self.penalties[1],
+                          self.penalties[0], self.seed)
+        other.base = self.base
+        for kind, number, place in other.order():
+            other.values[kind, number, place] = self.values[kind, number, place] if kind else 0
+        other.ratings = {(0, item): rating for item, rating in zip(ratings[0::2], ratings[1::2])}
+        for rounds in range(1, 101):
+            changes = [other.step(0, 0, place)[0] for place in range(self.factors + 1)]
+            if not any(changes):
+                break
+        return rounds, other
+
+    def fold_in(self, *ratings):
+        rounds, other = self.newcomer(ratings)
+        return [rounds, *[other.values[0, 0, place] for place in range(self.factors + 1)]]
+
+    def recommend_new(self, count, *ratings):
+        return self.newcomer(ratings)[1].recommend(0, count)
+
+    def without(self, user, most):
+        self.delete_user(user)
+        self.reset()
+        return self.train(most)
+
+    def status(self):
+        return [*self.counts, self.factors, len(self.ratings), len(self.order())]
 
 
 def slow_run(create, *calls):

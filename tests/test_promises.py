@@ -1,9 +1,9 @@
-"""The requirements, on many models: 1, 2, 3, 5 and 7, and every answer beside that of the definitions."""
+"""The requirements, on many models, and every answer beside that of the definitions."""
 
 import random
 import unittest
 
-from helper import OTHER_CALLS, run, slow_run
+from helper import NUMBERS, OTHER_CALLS, look_at, order_of, run, slow_run
 
 
 def sample(seed):
@@ -17,13 +17,24 @@ def sample(seed):
             for _ in range(chance.randint(0, 12))]
     if chance.randint(0, 1):
         fill.append(("reset",))
-    order = [(kind, number, place) for kind in (0, 1) for number in range((users, items)[kind])
-             for place in range(factors + 1)]
-    return chance, create, fill, order
+    return chance, create, fill, order_of(users, items, factors)
+
+
+def new_ratings(chance, items):
+    """Ratings of a new user, in order."""
+    rated = sorted(chance.sample(range(items), chance.randint(0, items)))
+    return [number for item in rated for number in (item, chance.randint(1, 10))]
+
+
+def new_value(chance, create):
+    """A parameter's sign and size; it may be outside its range."""
+    size = chance.choice([chance.randint(0, 9), chance.randint(0, create[4] + 1), chance.randint(0, 655361)])
+    return chance.randint(0, 1), size
 
 
 def mixed_calls(chance, create, order):
-    """Calls of all kinds on the model, each in order."""
+    """Calls of all kinds on the model, whose rows and places are there."""
+    rows = [parameter[:2] for parameter in order]
     makers = [
         lambda: ("set_rating", chance.randrange(create[1]), chance.randrange(create[2]), chance.randint(1, 10)),
         lambda: ("clear_rating", chance.randrange(create[1]), chance.randrange(create[2])),
@@ -36,8 +47,27 @@ def mixed_calls(chance, create, order):
         lambda: ("curve", chance.randint(0, 4)),
         lambda: ("certificate",),
         lambda: ("quadratic", *chance.choice(order)),
+        lambda: ("parameter", *chance.choice(order)),
+        lambda: ("set_parameter", *chance.choice(order), *new_value(chance, create)),
+        lambda: ("predict", chance.randrange(create[1]), chance.randrange(create[2])),
+        lambda: ("explain", chance.randrange(create[1]), chance.randrange(create[2])),
+        lambda: ("residuals", chance.randrange(create[1])),
+        lambda: ("mean_error",),
+        lambda: ("recommend", chance.randrange(create[1]), chance.randint(0, 5)),
+        lambda: ("similar", *chance.choice(rows), chance.randint(0, 5)),
+        lambda: ("fold_in", *new_ratings(chance, create[2])),
+        lambda: ("recommend_new", chance.randint(0, 5), *new_ratings(chance, create[2])),
+        lambda: ("without", chance.randrange(create[1]), chance.randint(0, 4)),
+        lambda: ("status",),
     ]
-    return [chance.choice(makers)() for _ in range(20)]
+    return [chance.choice(makers)() for _ in range(40)]
+
+
+# A model, all that it holds, and what comes of it.
+STATE = [("create", 2, 3, 2, 100, 0, 5, 2, 77), ("set_rating", 0, 0, 8), ("set_rating", 0, 1, 3),
+         ("set_rating", 1, 1, 5), ("reset",), ("sweep",), ("set_parameter", 1, 0, 2, 0, 33)]
+LOOK = look_at(2, 3, 2) + [("objective",), ("certificate",), ("curve", 2), ("sweep",), ("reset",), ("objective",)]
+EXPECTED = run(*STATE, *LOOK)[len(STATE):]
 
 
 class Promises(unittest.TestCase):
@@ -88,11 +118,22 @@ class Promises(unittest.TestCase):
                 self.assertEqual(found[-1], [0, found[-3][2]])
         self.assertGreater(converged, 50)
 
+    def test_4_without_is_as_if_the_user_had_never_been_there(self):
+        for seed in range(150):
+            chance, create, fill, order = sample(seed)
+            user, most = chance.randrange(create[1]), chance.choice([0, 1, 3, 100])
+            look = look_at(*create[1:4]) + [("objective",), ("certificate",)]
+            others = [call for call in fill if call[0] == "set_rating" and call[1] != user]
+            forgotten = run(create, *fill, ("train", 2), ("without", user, most), *look)
+            never = run(create, *others, ("reset",), ("train", most), *look)
+            self.assertEqual(forgotten[len(fill) + 2:], never[len(others) + 2:])
+
     def test_5_objective_not_negative_and_parameters_in_their_ranges(self):
         for seed in range(150):
             chance, create, fill, order = sample(seed)
             look = [("objective",)] + [("step", *parameter) for parameter in order]
-            for work in ([], [("train", 5)]):
+            sets = [("set_parameter", *chance.choice(order), *new_value(chance, create)) for _ in range(10)]
+            for work in ([], [("train", 5)], sets, [("without", 0, 3)]):
                 found = run(create, *fill, *work, *look)[-len(look):]
                 self.assertEqual(found[0][1], found[0][2] + found[0][3])
                 self.assertGreaterEqual(min(found[0]), 0)
@@ -102,12 +143,18 @@ class Promises(unittest.TestCase):
                     for value in step[1:]:
                         self.assertTrue(lowest <= value <= highest)
 
+    def test_6_the_parts_of_an_explanation_add_up_to_the_prediction(self):
+        for seed in range(150):
+            chance, create, fill, order = sample(seed)
+            sets = [("set_parameter", *chance.choice(order), *new_value(chance, create)) for _ in range(6)]
+            pairs = [(user, item) for user in range(create[1]) for item in range(create[2])]
+            asked = [(name, *pair) for pair in pairs for name in ("explain", "predict")]
+            found = run(create, *fill, ("train", 2), *sets, *asked)[-len(asked):]
+            for parts, prediction in zip(found[0::2], found[1::2]):
+                self.assertEqual(parts[0], len(parts) - 1)
+                self.assertEqual([0, sum(parts[1:])], prediction)
+
     def test_7_a_failed_call_leaves_the_state(self):
-        before = [("create", 2, 3, 2, 100, 0, 5, 2, 77), ("set_rating", 0, 0, 8), ("set_rating", 0, 1, 3),
-                  ("set_rating", 1, 1, 5), ("reset",), ("sweep",)]
-        order = [("step", kind, number, place) for kind in (0, 1) for number in range(2 + kind) for place in range(3)]
-        look = [("objective",), ("certificate",), ("curve", 2), *order, ("clear_rating", 0, 0), ("clear_rating", 0, 1),
-                ("clear_rating", 1, 1), ("clear_rating", 1, 0), ("reset",), ("objective",)]
         wrong = [
             ("create", 0, 3, 2, 100, 0, 5, 2, 77), ("create", 9, 3, 2, 100, 0, 5, 2, 77),
             ("create", 2, 0, 2, 100, 0, 5, 2, 77), ("create", 2, 3, 4, 100, 0, 5, 2, 77),
@@ -117,23 +164,50 @@ class Promises(unittest.TestCase):
             ("set_rating", 0, 0, 0), ("set_rating", 0, 0, 11), ("clear_rating", 2, 0), ("clear_rating", 0, 3),
             ("clear_rating", 1, 0), ("delete_user", 2), ("step", 2, 0, 0), ("step", 0, 2, 0), ("step", 1, 3, 0),
             ("step", 0, 0, 3), ("train", 101), ("curve", 21), ("quadratic", 2, 0, 0), ("quadratic", 0, 2, 0),
-            ("quadratic", 0, 0, 3),
+            ("quadratic", 0, 0, 3), ("parameter", 2, 0, 0), ("parameter", 1, 3, 0), ("parameter", 0, 0, 3),
+            ("set_parameter", 2, 0, 0, 0, 1), ("set_parameter", 0, 2, 0, 0, 1), ("set_parameter", 0, 0, 3, 0, 1),
+            ("set_parameter", 0, 0, 0, 2, 1), ("set_parameter", 0, 0, 0, 0, 655361),
+            ("set_parameter", 1, 2, 2, 1, 101), ("set_parameter", 1, 2, 2, 2, 0), ("predict", 2, 0), ("predict", 0, 3),
+            ("explain", 2, 0), ("explain", 0, 3), ("residuals", 2), ("recommend", 2, 3), ("similar", 2, 0, 3),
+            ("similar", 0, 2, 3), ("similar", 1, 3, 3), ("fold_in", 0), ("fold_in", 3, 5), ("fold_in", 0, 11),
+            ("fold_in", 1, 5, 0, 5), ("recommend_new", 3, 0), ("recommend_new", 3, 0, 5, 0, 5), ("without", 2, 3),
+            ("without", 0, 101), ("without", 1, 4294967295),
         ]
-        expected = run(*before, *look)[len(before):]
         for call in wrong:
-            found = run(*before, call, *look)[len(before):]
+            found = run(*STATE, call, *LOOK)[len(STATE):]
             self.assertEqual(len(found[0]), 1, call)
-            self.assertLess(found[0][0], 0, call)
-            self.assertEqual(found[1:], expected, call)
+            self.assertIn(found[0][0], (-2, -22, -33), call)
+            self.assertEqual(found[1:], EXPECTED, call)
+
+    def test_7_mean_error_without_ratings(self):
+        calls = [*STATE, ("delete_user", 0), ("delete_user", 1)]
+        self.assertEqual(run(*calls, ("mean_error",), *LOOK)[len(calls):], [[-33]] + run(*calls, *LOOK)[len(calls):])
+
+
+class TheCallsThatOnlyAsk(unittest.TestCase):
+    def test_they_leave_the_state(self):
+        asking = [
+            ("objective",), ("curve", 20), ("certificate",), ("quadratic", 1, 2, 1), ("parameter", 1, 2, 1),
+            ("predict", 1, 2), ("explain", 1, 2), ("residuals", 0), ("mean_error",), ("recommend", 1, 9),
+            ("similar", 0, 0, 9), ("similar", 1, 0, 9), ("fold_in",), ("fold_in", 0, 10, 1, 1, 2, 10),
+            ("recommend_new", 9), ("recommend_new", 9, 0, 10, 2, 10), ("status",),
+        ]
+        for call in asking:
+            found = run(*STATE, call, *LOOK)[len(STATE):]
+            self.assertGreaterEqual(found[0][0], 0, call)
+            self.assertEqual(found[1:], EXPECTED, call)
+        self.assertEqual(run(*STATE, *asking, *LOOK)[len(STATE) + len(asking):], EXPECTED)
 
 
 class NoModel(unittest.TestCase):
     def test_every_call_but_create_fails_before_all_other_checks(self):
         self.assertEqual(run(*OTHER_CALLS), [[-11]] * len(OTHER_CALLS))
 
-    def test_also_the_calls_of_the_whole_interface(self):
-        self.assertEqual(run((12, 0, 0, 0), (13, 0, 0, 0, 0, 0), (14, 0, 0), (15, 0, 0), (16, 0), (17,), (18, 0, 1),
-                             (19, 0, 0, 1), (20,), (20, 0), (21, 1), (21, 1, 0, 5), (22, 0, 1), (23,)), [[-11]] * 14)
+    def test_after_a_create_that_fails(self):
+        self.assertEqual(run(("create", 2, 2, 4, 1, 0, 1, 1, 5), *OTHER_CALLS), [[-22]] + [[-11]] * len(OTHER_CALLS))
+
+    def test_each_of_the_calls_is_among_them(self):
+        self.assertEqual({call[0] for call in OTHER_CALLS}, set(NUMBERS) - {"create"})
 
     def test_until_a_create_succeeds(self):
         self.assertEqual(run(("train", 101), ("create", 1, 9, 0, 1, 0, 1, 1, 0), ("train", 101),
